@@ -1,0 +1,1 @@
+"""Taflhall: the moves of a position by a hall's rules."""
