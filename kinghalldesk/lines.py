@@ -2,10 +2,10 @@
 
 from kinghalldesk.cells import CELLS, KING, NOBODY, Position, cells_downward, may_stand
 from kinghalldesk.reader import Reader, Stuck
+from kinghalldesk.texts import DIGITS, as_bytes
 
 PIECE_SIGNS = ".hmK"
 TURN_SIGNS = "hk"
-DIGITS = "0123456789"
 
 
 class LineFault(ValueError):
@@ -106,5 +106,4 @@ def free_text(free):
 def write_line(rules, position):
     told = [position.pieces[cell] for cell in cells_downward(rules.wide, rules.high)]
     rows = [row_text(told[rules.wide * row:rules.wide * (row + 1)]) for row in range(rules.high)]
-    text = "/".join(rows) + " " + TURN_SIGNS[position.turn]
-    return [ord(sign) for sign in text]
+    return as_bytes("/".join(rows) + " " + TURN_SIGNS[position.turn])

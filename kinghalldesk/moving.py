@@ -1,18 +1,22 @@
 """Where pieces may go, what they take, and when it's over."""
 
-from kinghalldesk.cells import CELLS, EXIT, HUNTER, KING, NOBODY, PLAIN, SEAT, SIDES, WALL
+from kinghalldesk.cells import EXIT, HUNTER, KING, NOBODY, PLAIN, SEAT, SIDES, WALL
 from kinghalldesk.cells import Position, king_cell, may_stand
 
 
+class NoSuchMove(ValueError):
+    pass
+
+
 class Move:
-    def __init__(self, rules, position, start, target):
+    def __init__(self, rules, position, step):
+        self.start = step[0]
+        self.target = step[1]
         pieces = list(position.pieces)
-        pieces[target] = pieces[start]
-        pieces[start] = NOBODY
-        self.start = start
-        self.target = target
+        pieces[self.target] = pieces[self.start]
+        pieces[self.start] = NOBODY
         # All are found before any goes: what stood behind them counts as it stood.
-        self.taken = taken_by(rules, pieces, target)
+        self.taken = taken_by(rules, pieces, self.target)
         for cell in self.taken:
             pieces[cell] = NOBODY
         self.after = Position(pieces, 1 - position.turn)
@@ -51,12 +55,12 @@ def targets_from(rules, pieces, start):
     return sorted(targets)
 
 
-def cells_of(pieces, turn):
-    return [cell for cell in range(CELLS) if SIDES[pieces[cell]] == turn]
+def cells_of(rules, pieces, turn):
+    return [cell for cell in rules.cells if SIDES[pieces[cell]] == turn]
 
 
 def can_move(rules, pieces, turn):
-    for start in cells_of(pieces, turn):
+    for start in cells_of(rules, pieces, turn):
         for way in rules.ways:
             if len(stops_along(rules, pieces, start, way)) > 0:
                 return True
@@ -125,11 +129,22 @@ def how_over(rules, position):
     return over
 
 
-def moves_of(rules, position):
-    moves = []
+def steps_of(rules, position):
+    # A step is where a move begins and ends, all that tells it from the others.
+    steps = []
     if over_by_king(rules, position) > 0:
-        return moves
-    for start in cells_of(position.pieces, position.turn):
-        for target in targets_from(rules, position.pieces, start):
-            moves.append(Move(rules, position, start, target))
-    return moves
+        return steps
+    for start in cells_of(rules, position.pieces, position.turn):
+        steps.extend([(start, target) for target in targets_from(rules, position.pieces, start)])
+    return steps
+
+
+def moves_of(rules, position):
+    return [Move(rules, position, step) for step in steps_of(rules, position)]
+
+
+def move_between(rules, position, start, target):
+    step = (start, target)
+    if step not in steps_of(rules, position):
+        raise NoSuchMove()
+    return Move(rules, position, step)

@@ -3,9 +3,9 @@
 from kinghalldesk.cells import CELLS, EXIT, HUNTER, KING, NOBODY, SEAT, WALL
 from kinghalldesk.cells import Position, cells_downward, king_cell, may_stand, ways_of
 from kinghalldesk.reader import Reader, Stuck
+from kinghalldesk.texts import DIGITS
 
 LETTERS = "ABCDEFGHIJKLMNOPQRSTUVWXYZabcdefghijklmnopqrstuvwxyz"
-DIGITS = "0123456789"
 LONGEST_NAME = 16
 HIGHEST_LIMIT = 60000
 
@@ -71,6 +71,7 @@ class Rules:
         self.goal = draft.goal
         self.thrice = draft.thrice
         self.limit = draft.limit
+        self.cells = sorted(cells_downward(draft.wide, draft.high))
         self.ways = ways_of(draft.wide, draft.high)
         self.ground = laid_out(draft, draft.ground, WALL)
         self.start = Position(laid_out(draft, draft.start, NOBODY), draft.first)

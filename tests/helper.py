@@ -2,7 +2,8 @@
 
 from kinghalldesk.board import answers
 
-NUMBERS = {"rules": 0, "begin": 1, "over": 2, "moves": 3}
+NUMBERS = {"rules": 0, "begin": 1, "over": 2, "moves": 3, "make": 4, "write": 5, "read": 6, "deep": 7}
+HIGHEST = 4294967295
 
 WORDS = {
     "first": "hunters",
@@ -42,11 +43,12 @@ def row_of(text):
 
 
 def handed_in(calls):
+    """Calls as they're handed in: a name, then the whole numbers, then the texts."""
     numbers = []
     for call in calls:
         numbers.append(NUMBERS[call[0]])
-        for text in call[1:]:
-            numbers += row_of(text)
+        for part in call[1:]:
+            numbers += [part] if isinstance(part, int) else row_of(part)
     return numbers
 
 
@@ -77,8 +79,44 @@ def after_rules(text, *call):
     return second
 
 
+def many_after_rules(text, calls):
+    """Any number of calls, in lists as long as may be handed in."""
+    told = []
+    for first in range(0, len(calls), 100):
+        part = run(("rules", text), *calls[first:first + 100])
+        assert part[0] == [0], f"the test's own rules are at fault: {part[0]}"
+        told += part[1:]
+    return told
+
+
 def over(text, line):
     return after_rules(text, "over", line)
+
+
+def text_behind(told, place):
+    """The text whose count stands at a place of an answer, and the place behind it."""
+    behind = place + 1 + told[place]
+    return bytes(told[place + 1:behind]).decode("ascii"), behind
+
+
+def made(told):
+    """An answer of make that's no refusal: over, the line of the position then, the taken."""
+    line, place = text_behind(told, 1)
+    assert told[place] == len(told) - place - 1, told
+    return told[0], line, told[place + 1:]
+
+
+def written(told):
+    """The text of an answer that is 0 and a text."""
+    line, place = text_behind(told, 1)
+    assert told[0] == 0 and place == len(told), told
+    return line
+
+
+def listed(told):
+    """The list of an answer that is 0 and a list."""
+    assert told[0] == 0 and told[1] == len(told) - 2, told
+    return told[2:]
 
 
 def moves(text, line):
@@ -96,9 +134,7 @@ def moves(text, line):
 
 
 def begin(text):
-    told = after_rules(text, "begin")
-    assert told[0] == 0 and told[1] == len(told) - 2, told
-    return bytes(told[2:]).decode("ascii")
+    return written(after_rules(text, "begin"))
 
 
 def cell(name):
@@ -107,6 +143,11 @@ def cell(name):
 
 def cells(names):
     return [cell(name) for name in names.split()]
+
+
+def step(names):
+    """The two cells of a move, told as its line begins: d4-d7."""
+    return cells(names.replace("-", " "))
 
 
 def line_at(wide, high, turn, h="", m="", K=""):
@@ -130,3 +171,23 @@ def line_at(wide, high, turn, h="", m="", K=""):
         rows.append(told + (str(free) if free else ""))
     assert not signs, "a piece beside the ground"
     return "/".join(rows) + " " + turn
+
+
+def with_middle(middle, **words):
+    """A ground of 7 by 7, plain but for d4; the king begins at e5, a hunter at b2."""
+    ground = f"....... ....... ....... ...{middle}... ....... ....... ......."
+    return hall(ground, "....... ....... ....K.. ....... ....... .h..... .......", **words)
+
+
+def open_hall(**words):
+    return with_middle(".", **words)
+
+
+def cornered(**words):
+    """Exits in the corners and for a goal, so that the edge is a place like others."""
+    ground = "X.....X ....... ....... ....... ....... ....... X.....X"
+    return hall(ground, "....... ....... ....K.. ....... ....... .h..... .......", goal="exits", **words)
+
+
+def at(turn, h="", m="", K="f6"):
+    return line_at(7, 7, turn, h=h, m=m, K=K)

@@ -2,7 +2,7 @@
 
 import unittest
 
-from tests.helper import begin, hall, over, plain_hall, run
+from tests.helper import HIGHEST, begin, hall, over, plain_hall, run
 
 PLAIN = plain_hall(7, 5)
 WIDE = plain_hall(13, 5)
@@ -143,23 +143,34 @@ class Kind2(unittest.TestCase):
         self.assertEqual(over(SPECIAL, "K1h2/5/2h2/5/5 h"), [-5, 2, 2])
 
 
+def calls_with(line):
+    """Every call that has a position's line, with that one; what else it has is at fault or not."""
+    return [("over", line), ("moves", line), ("make", 0, 1, line), ("make", HIGHEST, HIGHEST, line),
+            ("write", 0, 1, line), ("write", HIGHEST, HIGHEST, line), ("read", line, "a1-b1"), ("read", line, ""),
+            ("deep", 1, 2000, line), ("deep", 6, 1, line), ("deep", 0, 0, line), ("deep", HIGHEST, HIGHEST, line)]
+
+
 class AllCallsWithALine(unittest.TestCase):
     def test_no_rules_before_all_else(self):
-        for call in ("over", "moves"):
-            for line in ("", "5/5/2K2/5/h4 h", "nothing", "h" * 600):
-                self.assertEqual(run((call, line)), [[-3]])
-                self.assertEqual(run(("rules", "tafl!"), (call, line)), [[-6, 1, 4], [-3]])
+        for line in ("", "5/5/2K2/5/h4 h", "nothing", "h" * 600):
+            calls = calls_with(line)
+            self.assertEqual(run(*calls), [[-3]] * len(calls))
+            self.assertEqual(run(("rules", "tafl!"), *calls), [[-6, 1, 4]] + [[-3]] * len(calls))
 
-    def test_moves_tells_the_same_faults(self):
+    def test_all_tell_the_same_faults(self):
         for line, told in (("", [-5, 1, 0]), ("7/7/7/7/7", [-5, 1, 9]), ("h" * 1000, [-5, 1, 7])):
-            self.assertEqual(run(("rules", PLAIN), ("moves", line))[1], told)
-        self.assertEqual(run(("rules", SPECIAL), ("moves", "5/5/2h2/5/5 k"))[1], [-5, 2, 5])
+            calls = calls_with(line)
+            self.assertEqual(run(("rules", PLAIN), *calls), [[0]] + [told] * len(calls))
+        calls = calls_with("5/5/2h2/5/5 k")
+        self.assertEqual(run(("rules", SPECIAL), *calls), [[0]] + [[-5, 2, 5]] * len(calls))
 
     def test_a_refused_line_changes_nothing(self):
-        told = run(("rules", PLAIN), ("over", "x"), ("moves", "7/7/7/7/7 x"), ("begin",), ("over", LINES[0]))
-        self.assertEqual(told[1:3], [[-5, 1, 0], [-5, 1, 10]])
-        self.assertEqual(bytes(told[3][2:]).decode(), begin(PLAIN))
-        self.assertEqual(told[4], over(PLAIN, LINES[0]))
+        refused = calls_with("x") + calls_with("7/7/7/7/7 x")
+        told = run(("rules", PLAIN), *refused, ("begin",), ("over", LINES[0]))
+        half = len(refused) // 2
+        self.assertEqual(told[1:-2], [[-5, 1, 0]] * half + [[-5, 1, 10]] * half)
+        self.assertEqual(bytes(told[-2][2:]).decode(), begin(PLAIN))
+        self.assertEqual(told[-1], over(PLAIN, LINES[0]))
 
 
 if __name__ == "__main__":

@@ -2,31 +2,11 @@
 
 import unittest
 
-from tests.helper import cell, cells, hall, line_at, moves, run
+from tests.helper import at, cell, cells, cornered, hall, line_at, moves, open_hall, run, step, with_middle
 
 ENMITIES = ("quiet", "hunters", "men", "all")
 AGAINST_HUNTERS = ("hunters", "all")
 AGAINST_MEN = ("men", "all")
-
-
-def with_middle(middle, **words):
-    """A ground of 7 by 7, plain but for d4; the king begins at e5, a hunter at b2."""
-    ground = f"....... ....... ....... ...{middle}... ....... ....... ......."
-    return hall(ground, "....... ....... ....K.. ....... ....... .h..... .......", **words)
-
-
-def open_hall(**words):
-    return with_middle(".", **words)
-
-
-def cornered(**words):
-    """Exits in the corners and for a goal, so that the edge is a place like others."""
-    ground = "X.....X ....... ....... ....... ....... ....... X.....X"
-    return hall(ground, "....... ....... ....K.. ....... ....... .h..... .......", goal="exits", **words)
-
-
-def at(turn, h="", m="", K="f6"):
-    return line_at(7, 7, turn, h=h, m=m, K=K)
 
 
 def targets(text, line, name):
@@ -35,8 +15,7 @@ def targets(text, line, name):
 
 def told(text, line, names):
     """What is told of one move behind its two cells: over, then the taken."""
-    start, target = cells(names.replace("-", " "))
-    found = [row[2:] for row in moves(text, line) if row[:2] == [start, target]]
+    found = [row[2:] for row in moves(text, line) if row[:2] == step(names)]
     assert len(found) == 1, f"{names} is told {len(found)} times"
     return found[0]
 

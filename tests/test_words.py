@@ -1,153 +1,11 @@
-"""The document's words told once more, plainly and slowly, against over and moves of many positions."""
+"""Over, moves, make, write, read and deep of many positions, against the document's words told once more."""
 
 import random
+import re
 import unittest
 
-from tests.helper import hall, run
-
-ENMITIES = ("quiet", "hunters", "men", "all")
-WAYS = ((0, 1), (1, 0), (0, -1), (-1, 0))
-SIDE = {"h": "h", "m": "k", "K": "k"}
-
-
-class Words:
-    """Rules and a position as dicts from (x, y), walked sentence by sentence."""
-
-    def __init__(self, ground, words):
-        rows = ground.split()
-        self.wide, self.high = len(rows[0]), len(rows)
-        self.ground = {(x, self.high - 1 - r): sign for r, row in enumerate(rows) for x, sign in enumerate(row)}
-        self.words = words
-
-    def free(self, pieces, c):
-        return c in self.ground and self.ground[c] != "#" and c not in pieces
-
-    def may_move(self, pieces, a, b):
-        if a == b or (a[0] != b[0] and a[1] != b[1]):
-            return False
-        piece = pieces[a]
-        far = max(abs(a[0] - b[0]), abs(a[1] - b[1]))
-        step = ((b[0] - a[0]) // far, (b[1] - a[1]) // far)
-        way = [(a[0] + k * step[0], a[1] + k * step[1]) for k in range(1, far + 1)]
-        if not all(self.free(pieces, c) for c in way):
-            return False
-        if piece == "K":
-            return self.words["king"].startswith("slides") or far == 1
-        if self.ground[b] in "SX" or any(self.ground[c] == "X" for c in way):
-            return False
-        return self.words["seat"].startswith("passed") or not any(self.ground[c] == "S" for c in way)
-
-    def geometric(self, pieces, turn):
-        own = [c for c in pieces if SIDE[pieces[c]] == turn]
-        return [(a, b) for a in own for b in self.ground if self.may_move(pieces, a, b)]
-
-    def against(self, pieces, c, piece):
-        if self.ground[c] == "S" and c not in pieces:
-            enmity = self.words["seat"].split()[1]
-        elif self.ground[c] == "X":
-            enmity = self.words["exits"]
-        else:
-            return False
-        return enmity == "all" or enmity == ("hunters" if piece == "h" else "men")
-
-    def taken(self, pieces, c):
-        armed = "armed" in self.words["king"]
-        mover = pieces[c]
-        found = set()
-        for dx, dy in WAYS:
-            n = (c[0] + dx, c[1] + dy)
-            behind = (n[0] + dx, n[1] + dy)
-            who = pieces.get(n)
-            if who in ("h", "m") and SIDE[who] != SIDE[mover] and not (mover == "K" and not armed):
-                if behind in self.ground:
-                    other = pieces.get(behind)
-                    if other and SIDE[other] == SIDE[mover] and (other != "K" or armed):
-                        found.add(n)
-                    if self.against(pieces, behind, who):
-                        found.add(n)
-            if who == "K" and mover == "h":
-                if self.words["king"].endswith("two"):
-                    held = [behind] if behind in self.ground else []
-                    enough = 1
-                else:
-                    held = [(n[0] + ex, n[1] + ey) for ex, ey in WAYS if (n[0] + ex, n[1] + ey) in self.ground]
-                    enough = 4
-                if len(held) == enough and all(pieces.get(d) == "h" or self.against(pieces, d, "K") for d in held):
-                    found.add(n)
-        return found
-
-    def over(self, pieces, turn):
-        kings = [c for c in pieces if pieces[c] == "K"]
-        if not kings:
-            return 1
-        x, y = kings[0]
-        if self.words["goal"] == "edge" and (x in (0, self.wide - 1) or y in (0, self.high - 1)):
-            return 2
-        if self.words["goal"] == "exits" and self.ground[(x, y)] == "X":
-            return 2
-        return 0 if self.geometric(pieces, turn) else 3
-
-    def moves(self, pieces, turn):
-        if self.over(pieces, turn) in (1, 2):
-            return []
-        rows = []
-        for a, b in self.geometric(pieces, turn):
-            after = dict(pieces)
-            after[b] = after.pop(a)
-            gone = self.taken(after, b)
-            after = {c: sign for c, sign in after.items() if c not in gone}
-            over = self.over(after, "k" if turn == "h" else "h")
-            rows.append([13 * a[1] + a[0], 13 * b[1] + b[0], over] + sorted(13 * c[1] + c[0] for c in gone))
-        return sorted(rows)
-
-    def line(self, pieces, turn):
-        rows = []
-        for y in reversed(range(self.high)):
-            signs = "".join(pieces.get((x, y), ".") for x in range(self.wide))
-            for many in range(13, 0, -1):
-                signs = signs.replace("." * many, f"{many}")
-            rows.append(signs)
-        return "/".join(rows) + " " + turn
-
-
-def some_hall(dice):
-    """Rules that are right: the start is a king in a place that any ground allows, and a hunter."""
-    wide, high = dice.choice(((5, 5), (5, 7), (7, 5), (7, 7), (6, 8), (13, 5), (5, 13), (9, 9)))
-    signs = [dice.choices(".X#", weights=(12, dice.choice((0, 1, 2)), 1))[0] for _ in range(wide * high)]
-    seat = dice.randrange(wide * high)
-    signs[seat] = "S"
-    inner = [y * wide + x for y in range(1, high - 1) for x in range(1, wide - 1) if y * wide + x != seat]
-    king, hunter, exit_at = dice.sample(inner, 3)
-    signs[king] = signs[hunter] = "."
-    words = {
-        "first": "king",
-        "king": " ".join((dice.choice(("slides", "steps")), dice.choice(("armed", "bare")), dice.choice(("two", "four")))),
-        "seat": dice.choice(("passed", "barred")) + " " + dice.choice(ENMITIES),
-        "exits": dice.choice(ENMITIES),
-        "goal": dice.choice(("edge", "exits")),
-    }
-    if words["goal"] == "exits" and "X" not in signs:
-        signs[exit_at] = "X"
-    start = ["."] * (wide * high)
-    start[king], start[hunter] = "K", "h"
-
-    def rows(told):
-        return " ".join("".join(told[y * wide:(y + 1) * wide]) for y in range(high))
-    ground = rows(signs)
-    return hall(ground, rows(start), **words), Words(ground, words)
-
-
-def some_pieces(dice, told):
-    crowd = dice.choice((0.05, 0.2, 0.4, 0.6, 0.95))
-    pieces = {}
-    for c, sign in told.ground.items():
-        if sign == "." and dice.random() < crowd:
-            pieces[c] = dice.choice("hhm")
-    spots = [c for c, sign in told.ground.items() if sign != "#"]
-    inner = [c for c in spots if 0 < c[0] < told.wide - 1 and 0 < c[1] < told.high - 1]
-    if dice.random() < 0.95:
-        pieces[dice.choice(inner if dice.random() < 0.8 else spots)] = "K"
-    return pieces
+from tests.helper import after_rules, listed, made, many_after_rules, moves, run, written
+from tests.words import some_hall, some_pieces
 
 
 class ManyPositions(unittest.TestCase):
@@ -176,6 +34,84 @@ class ManyPositions(unittest.TestCase):
         self.assertEqual(seen["over"], {0, 1, 2, 3})
         self.assertEqual(seen["by"], {0, 1, 2, 3})
         self.assertLessEqual({0, 1, 2}, seen["taken"])
+
+    def test_make_write_and_read(self):
+        dice = random.Random(11)
+        seen = set()
+        for _ in range(60):
+            text, told = some_hall(dice)
+            for _ in range(2):
+                pieces, turn = some_pieces(dice, told), dice.choice("hk")
+                line = told.line(pieces, turn)
+                ends = told.all_played(pieces, turn)
+                # The moves that take or end something are few: all of these, and some of the others.
+                ends = [end for end in ends if end[2][2:] != [0]] + [end for end in ends if end[2][2:] == [0]][::9]
+                calls = []
+                for after, then, row in ends:
+                    calls += [("make", row[0], row[1], line), ("over", told.line(after, then)),
+                              ("write", row[0], row[1], line), ("read", line, told.move_line(row))]
+                answers = many_after_rules(text, calls)
+                for k, (after, then, row) in enumerate(ends):
+                    note = (text, line, row)
+                    self.assertEqual(made(answers[4 * k]), (row[2], told.line(after, then), row[3:]), note)
+                    self.assertEqual(answers[4 * k + 1], [row[2]], note)
+                    self.assertEqual(written(answers[4 * k + 2]), told.move_line(row), note)
+                    self.assertEqual(listed(answers[4 * k + 3]), row, note)
+                    seen.add((row[2], min(len(row) - 3, 2)))
+        self.assertLessEqual({(0, 0), (0, 1), (0, 2), (1, 1), (2, 0), (3, 0), (3, 1)}, seen)
+
+    def test_what_is_gone_and_what_stays(self):
+        dice = random.Random(13)
+        for _ in range(40):
+            text, told = some_hall(dice)
+            pieces, turn = some_pieces(dice, told), dice.choice("hk")
+            line = told.line(pieces, turn)
+            rows = moves(text, line)
+            answers = many_after_rules(text, [("make", row[0], row[1], line) for row in rows])
+            before, _ = pieces_of(line)
+            for row, answer in zip(rows, answers):
+                _, then, taken = made(answer)
+                after, whose = pieces_of(then)
+                expected = {number: sign for number, sign in before.items() if number not in [row[0]] + taken}
+                expected[row[1]] = before[row[0]]
+                self.assertEqual((after, whose), (expected, "k" if turn == "h" else "h"), (text, line, row))
+                self.assertEqual(taken, row[3:])
+                for number, sign in after.items():
+                    kind = told.ground[(number % 13, number // 13)]
+                    self.assertTrue(kind == "." or (sign == "K" and kind in "SX"), (text, line, row))
+
+    def test_deep(self):
+        dice = random.Random(17)
+        lengths = set()
+        for _ in range(120):
+            text, told = some_hall(dice)
+            pieces, turn = some_pieces(dice, told), dice.choice("hk")
+            line = told.line(pieces, turn)
+            n = 2 if 0 < len(told.moves(pieces, turn)) <= 8 else 1
+            counts = told.deep(pieces, turn, n)
+            lengths.add(n)
+            self.assertEqual(after_rules(text, "deep", n, 2000, line), [0, n] + counts, (text, line))
+            total = sum(counts)
+            if total > 1:
+                self.assertEqual(after_rules(text, "deep", n, total, line), [0, n] + counts, (text, line))
+                self.assertEqual(after_rules(text, "deep", n, total - 1, line), [-9], (text, line))
+        self.assertEqual(lengths, {1, 2})
+
+
+def pieces_of(line):
+    """A position's line as its words say it: the pieces by their cells' numbers, and whose turn it is."""
+    rows, _, turn = line.partition(" ")
+    rows = rows.split("/")
+    pieces = {}
+    for y, row in enumerate(reversed(rows)):
+        x = 0
+        for part in re.findall("[0-9]+|[hmK]", row):
+            if part.isdigit():
+                x += int(part)
+            else:
+                pieces[13 * y + x] = part
+                x += 1
+    return pieces, turn
 
 
 if __name__ == "__main__":
