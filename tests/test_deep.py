@@ -1,7 +1,9 @@
 """Call 7: how many rows of just 1, just 2 and more moves there are from a position on."""
 
 import unittest
+from unittest import mock
 
+from kinghalldesk.moving import Move
 from tests.helper import (HIGHEST, after_rules, at, cornered, hall, line_at, listed, made, many_after_rules, moves,
                           open_hall, over, plain_hall, run, with_middle)
 
@@ -171,6 +173,17 @@ class Most(unittest.TestCase):
                 line = line_at(wide, high, turn, h=hunters, K=king)
                 self.assertEqual(deep(text, line, 6, 2000), [-9])
                 self.assertEqual(deep(text, line, 6, 1), [-9])
+
+
+    def test_no_more_is_made_than_is_needed_to_refuse(self):
+        line = at("h", h="d4 b2 e1", m="a3", K="f6")
+        rows = len(moves(open_hall(), line))
+        first = many_after_rules(open_hall(), [("make", *moves(open_hall(), line)[0][:2], line)])[0]
+        second = len(moves(open_hall(), made(first)[1]))
+        for most, needed in ((1, 0), (rows - 1, 0), (rows, 1), (rows + second - 1, 1), (rows + second, 2)):
+            with mock.patch("kinghalldesk.counting.Move", side_effect=Move) as watched:
+                self.assertEqual(deep(open_hall(), line, 6, most), [-9])
+            self.assertEqual(watched.call_count, needed, most)
 
 
 class OutOfBounds(unittest.TestCase):

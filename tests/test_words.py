@@ -58,7 +58,7 @@ class ManyPositions(unittest.TestCase):
                     self.assertEqual(written(answers[4 * k + 2]), told.move_line(row), note)
                     self.assertEqual(listed(answers[4 * k + 3]), row, note)
                     seen.add((row[2], min(len(row) - 3, 2)))
-        self.assertLessEqual({(0, 0), (0, 1), (0, 2), (1, 1), (2, 0), (3, 0), (3, 1)}, seen)
+        self.assertLessEqual({(0, 0), (0, 1), (0, 2), (1, 1), (2, 0), (3, 0)}, seen)
 
     def test_what_is_gone_and_what_stays(self):
         dice = random.Random(13)
